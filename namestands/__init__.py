@@ -1,0 +1,1 @@
+"""Which name stands: names of kinds of living things, and what is ruled of them."""
