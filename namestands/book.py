@@ -1,4 +1,4 @@
-"""The book of all names told so far, and of the kinds in which specimens are thought to be."""
+"""The book of all names told so far, and of what specimens and kinds are thought to belong to."""
 
 from namestands.refusals import FOREIGN, FULL, MISSING, TAKEN, WRONG
 from namestands.words import is_genus_word, is_species_word
@@ -10,11 +10,14 @@ LAST_DAY = 1048576
 SPECIMENS = 1024
 # One above the last kind: whoever tells this kind says that the specimen is in none.
 NO_KIND = 256
+# One above the last group, likewise.
+NO_GROUP = 64
 
 GENUS_RANK = 0
 SPECIES_RANK = 1
 
 NOTHING_RULED = 0
+REJECTED = 1
 CONSERVED = 2
 
 
@@ -49,6 +52,7 @@ class Book:
         self.genera = []
         self.species = []
         self.kinds = [NO_KIND] * SPECIMENS
+        self.groups = [NO_GROUP] * NO_KIND
         return 0
 
     def add_genus(self, word, day):
@@ -100,3 +104,20 @@ class Book:
             return WRONG
         self.kinds[specimen] = kind
         return 0
+
+    def place_kind(self, kind, group):
+        if kind >= NO_KIND or group > NO_GROUP:
+            return WRONG
+        self.groups[kind] = group
+        return 0
+
+    def kind_of_species(self, species):
+        return self.kinds[self.species[species].specimen]
+
+    def group_of_species(self, species):
+        kind = self.kind_of_species(species)
+        return NO_GROUP if kind == NO_KIND else self.groups[kind]
+
+    def group_of_genus(self, genus):
+        anchor = self.genera[genus].anchor
+        return NO_GROUP if anchor is None else self.group_of_species(anchor)

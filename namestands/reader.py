@@ -19,6 +19,7 @@ class Reader:
     def take_row(self):
         """A copy of the row that stands next, behind the count of its numbers."""
         length = self.take_number()
-        row = self.numbers[self.place:self.place + length]
+        # A tuple, since words are looked up in dicts.
+        row = tuple(self.numbers[self.place:self.place + length])
         self.place = self.place + length
         return row

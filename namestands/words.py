@@ -1,4 +1,4 @@
-"""What may be a word of a genus or of a species; words are lists of letters' numbers."""
+"""What may be a word of a genus or of a species; words are tuples of letters' numbers."""
 
 SHORTEST = 2
 LONGEST = 24

@@ -1,4 +1,4 @@
-"""The package's files keep to the plainest of the language's rules (L1, L2, L8, L10, L14, L17, L18)."""
+"""The package's files keep to the plainest rules of the language (among them L1, L2, L8, L10, L16 to L18, L20, L25)."""
 
 import ast
 import builtins
@@ -14,6 +14,10 @@ OWN_NAMES_OF_PYTHON = set(
 WORDS_NOT_WRITTEN = re.compile(
     r"\b(type|typing|typing_extensions|enum|Enum|IntEnum|StrEnum|Flag|IntFlag|Generic|Protocol|ABC|ABCMeta|"
     r"namedtuple|NamedTuple|TypedDict|TYPE_CHECKING|abstractmethod)\b|dataclass|overload|contextmanager")
+OWN_METHODS_OF_PYTHON = set(
+    "append clear copy count endswith extend find get index insert isalnum isalpha isdigit islower isspace isupper "
+    "items join keys ljust lower lstrip partition pop remove replace reverse rfind rjust rpartition rsplit rstrip "
+    "setdefault split splitlines startswith strip update upper values zfill bit_length".split())
 STATEMENTS_NOT_USED = (
     ast.With, ast.Match, ast.Delete, ast.Global, ast.Nonlocal, ast.Assert, ast.Yield, ast.YieldFrom,
     ast.AsyncFunctionDef, ast.Await, ast.NamedExpr, ast.GeneratorExp, ast.SetComp, ast.DictComp, ast.Starred)
@@ -74,6 +78,30 @@ class LanguageTest(unittest.TestCase):
                 self.assertNotIsInstance(node, STATEMENTS_NOT_USED, path)
                 self.assertNotIsInstance(getattr(node, "value", None), (float, bytes), path)
                 self.assertNotIsInstance(getattr(node, "op", None), ast.Div, path)
+
+    def test_no_two_files_draw_from_one_another(self):
+        drawn = {}
+        for path, tree in trees().items():
+            drawn[path.stem] = {node.module.split(".")[1] for node in tree.body if isinstance(node, ast.ImportFrom)}
+        while drawn:
+            free = [stem for stem in drawn if not drawn[stem] & set(drawn)]
+            self.assertTrue(free, drawn)
+            for stem in free:
+                del drawn[stem]
+
+    def test_is_stands_beside_none_true_and_false_alone(self):
+        for path, tree in trees().items():
+            for node in ast.walk(tree):
+                if isinstance(node, ast.Compare) and isinstance(node.ops[0], (ast.Is, ast.IsNot)):
+                    self.assertIsInstance(node.comparators[0], ast.Constant, path)
+                    self.assertIn(node.comparators[0].value, (None, True, False), path)
+
+    def test_methods_that_are_called(self):
+        own = {node.name for tree in trees().values() for node in ast.walk(tree) if isinstance(node, ast.FunctionDef)}
+        for path, tree in trees().items():
+            for node in ast.walk(tree):
+                if isinstance(node, ast.Call) and isinstance(node.func, ast.Attribute):
+                    self.assertIn(node.func.attr, OWN_METHODS_OF_PYTHON | own, path)
 
     def test_no_name_is_a_method_here_and_a_value_there(self):
         methods = set()
